@@ -155,11 +155,8 @@ func UnitsOf(fm int64, bits uint64) (Wide, bool) {
 	if !ok {
 		return Wide{}, false
 	}
-	if p.Neg {
-		p.M = -p.M
-	}
 	z, _ := sizesOf(fm)
-	return WideShifted(WideOf(p.M), p.E-z.unit)
+	return WideShifted(signedM(p), p.E-z.unit)
 }
 
 func NaNOf(fm int64) uint64 {
@@ -218,6 +215,13 @@ func Absolute(fm int64, bits uint64) uint64 {
 	return bits &^ z.sign()
 }
 
+func signedM(p Parts) Wide {
+	if p.Neg {
+		return WideOf(-p.M)
+	}
+	return WideOf(p.M)
+}
+
 func hasSign(fm int64, bits uint64) bool {
 	return bits != Absolute(fm, bits)
 }
@@ -254,6 +258,10 @@ func (z sizes) sign() uint64 {
 	return (z.ones + 1) << z.below
 }
 
+func (z sizes) precision() int64 {
+	return int64(z.below) + 1
+}
+
 func (z sizes) infinity() uint64 {
 	return z.ones << z.below
 }
@@ -280,7 +288,7 @@ func (z sizes) settled(m uint64, e int64) (uint64, int64, bool) {
 	low := bits.TrailingZeros64(m)
 	m >>= low
 	e += int64(low)
-	spare := int64(z.below) + 1 - int64(bits.Len64(m))
+	spare := z.precision() - int64(bits.Len64(m))
 	if spare < 0 || e < z.unit {
 		return 0, 0, false
 	}

@@ -173,6 +173,14 @@ func (f form) value(bits uint64) float64 {
 	return math.Float64frombits(bits)
 }
 
+// fromFloat is the float of the format that v is, or the nearest one.
+func (f form) fromFloat(v float64) uint64 {
+	if f.fm == 32 {
+		return uint64(math.Float32bits(float32(v)))
+	}
+	return math.Float64bits(v)
+}
+
 func (f form) isNaN(bits uint64) bool { return bits&^f.sign > f.inf }
 
 func (f form) isFinite(bits uint64) bool { return bits&^f.sign < f.inf }
